@@ -1,0 +1,153 @@
+"""Packets of a sheet whose squares lie all on one place: which orders can be, and their creases."""
+
+MOST_ALONG = 6
+MOST_SQUARES = 9
+
+ANSWERED = 0
+NOT_OF_THE_SHEET = -1
+CANNOT_BE = -5
+
+MOUNTAIN = 1
+VALLEY = 2
+
+
+def is_sheet(w, h):
+    return 1 <= w <= MOST_ALONG and 1 <= h <= MOST_ALONG and w * h <= MOST_SQUARES
+
+
+def is_row(w, h, row):
+    squares = w * h
+    if len(row) != squares:
+        return False
+    met = [False] * squares
+    for square in row:
+        if square >= squares or met[square]:
+            return False
+        met[square] = True
+    return True
+
+
+def layers_of(row):
+    layers = [0] * len(row)
+    for layer, square in enumerate(row):
+        layers[square] = layer
+    return layers
+
+
+def joined_line(line, side):
+    # Every other column is turned, so the edge towards the next column lies at the
+    # place's right (side 0) for even columns and at its left (side 1) for odd ones.
+    # Rows go likewise with up (side 0) and down (side 1).
+    if line % 2 == side:
+        return line + 1
+    return line - 1
+
+
+def turns_across(w, h, side):
+    """Of each square the one it turns to at the right (0) or left (1), None where the sheet ends."""
+    turns = []
+    for square in range(w * h):
+        x = joined_line(square % w, side)
+        turns.append(w * (square // w) + x if 0 <= x < w else None)
+    return turns
+
+
+def turns_upright(w, h, side):
+    """Of each square the one it turns to above (0) or below (1), None where the sheet ends."""
+    turns = []
+    for square in range(w * h):
+        y = joined_line(square // w, side)
+        turns.append(w * y + square % w if 0 <= y < h else None)
+    return turns
+
+
+def turns_at_sides(w, h):
+    return [turns_across(w, h, 0), turns_across(w, h, 1), turns_upright(w, h, 0), turns_upright(w, h, 1)]
+
+
+def lies_between(layer, one, other):
+    return one < layer < other or other < layer < one
+
+
+def go_through(layers, turns, c, d):
+    c_to = turns[c]
+    d_to = turns[d]
+    if c_to is None or d_to is None or d == c_to:
+        return False
+    d_within = lies_between(layers[d], layers[c], layers[c_to])
+    d_to_within = lies_between(layers[d_to], layers[c], layers[c_to])
+    return d_within != d_to_within
+
+
+def is_at_fault(layers, sides, c):
+    for d in range(c + 1, len(layers)):
+        for turns in sides:
+            if go_through(layers, turns, c, d):
+                return True
+    return False
+
+
+def lowest_at_fault(w, h, row):
+    """The lowest square of fault 3, None if the row can be.
+
+    Faults 1 and 2 can't come up: on one place all squares beside one another
+    are folded, and a row gives each layer once.
+    """
+    layers = layers_of(row)
+    sides = turns_at_sides(w, h)
+    for c in range(len(layers)):
+        if is_at_fault(layers, sides, c):
+            return c
+    return None
+
+
+def refusal(w, h, row):
+    """The refusal of a row as it is answered, an empty list if the row can be."""
+    if not is_sheet(w, h) or not is_row(w, h, row):
+        return [NOT_OF_THE_SHEET]
+    square = lowest_at_fault(w, h, row)
+    if square is None:
+        return []
+    return [CANNOT_BE, square]
+
+
+def folds(w, h):
+    """The pairs of squares that a crease lies between, in the order of a packet's creases."""
+    squares = w * h
+    to_the_right = [(c, c + 1) for c in range(squares) if c % w + 1 < w]
+    above = [(c, c + w) for c in range(squares) if c + w < squares]
+    return to_the_right + above
+
+
+def front_is_up(w, square):
+    return square % w % 2 == square // w % 2
+
+
+def crease_between(w, layers, c, d):
+    front_up = c if front_is_up(w, c) else d
+    front_down = d if front_is_up(w, c) else c
+    if layers[front_up] < layers[front_down]:
+        return VALLEY
+    return MOUNTAIN
+
+
+def creases_of(w, h, row):
+    layers = layers_of(row)
+    return [crease_between(w, layers, c, d) for c, d in folds(w, h)]
+
+
+def judge(w, h, row):
+    """[0] if the row can be, else its refusal."""
+    refused = refusal(w, h, row)
+    if refused:
+        return refused
+    return [ANSWERED]
+
+
+def creases(w, h, row):
+    """0, how many creases the row has, and they; or the row's refusal."""
+    refused = refusal(w, h, row)
+    if refused:
+        return refused
+    told = creases_of(w, h, row)
+    return [ANSWERED, len(told)] + told

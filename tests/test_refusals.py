@@ -1,0 +1,96 @@
+"""The refusal -1 of judge and creases, and that it comes before all else."""
+
+import unittest
+from itertools import product
+
+from onesquare.packets import creases, judge
+from tests.plain_reading import SHEETS, Sheet, creased, judged
+
+LARGEST = 4294967295
+CALLS = (judge, creases)
+
+
+class NoSheet(unittest.TestCase):
+    def refuse(self, w, h, row):
+        for call in CALLS:
+            self.assertEqual(call(w, h, row), [-1], (call, w, h, row))
+
+    def test_along_out_of_range(self):
+        for wrong in (0, 7, 8, 9, LARGEST):
+            for other in (0, 1, 2, 6, 7, LARGEST):
+                squares = min(wrong * other, 40)
+                for row in ([], [0], list(range(squares)), list(reversed(range(squares)))):
+                    self.refuse(wrong, other, row)
+                    self.refuse(other, wrong, row)
+
+    def test_above_nine_squares(self):
+        for w, h in product(range(1, 7), repeat=2):
+            if w * h > 9:
+                for row in ([], [0], list(range(w * h)), list(reversed(range(w * h))), list(range(9))):
+                    self.refuse(w, h, row)
+
+    def test_those_named(self):
+        for w, h in ((2, 5), (3, 4), (4, 3), (5, 2), (6, 6)):
+            self.refuse(w, h, list(range(w * h)))
+
+    def test_before_a_row_that_cannot_be(self):
+        self.refuse(5, 2, [0, 2, 1, 3, 4, 5, 6, 7, 8, 9])
+        self.refuse(7, 1, [0, 2, 1, 3, 4, 5, 6])
+        self.refuse(1, 8, [0, 2, 1, 3, 4, 5, 6, 7])
+
+    def test_the_largest_sheets_are_taken(self):
+        for w, h in ((6, 1), (1, 6), (3, 3), (2, 4), (4, 2)):
+            for call in CALLS:
+                self.assertNotEqual(call(w, h, list(range(w * h))), [-1])
+
+
+class NoRow(unittest.TestCase):
+    def refuse(self, w, h, row):
+        for call in CALLS:
+            self.assertEqual(call(w, h, row), [-1], (call, w, h, row))
+
+    def test_empty_short_and_long(self):
+        for w, h in SHEETS:
+            squares = w * h
+            for length in range(41):
+                if length != squares:
+                    self.refuse(w, h, list(range(length)))
+                    self.refuse(w, h, [c % squares for c in range(length)])
+                    self.refuse(w, h, [0] * length)
+
+    def test_a_square_twice(self):
+        for w, h in SHEETS:
+            for c, d in product(range(w * h), repeat=2):
+                if c != d:
+                    row = list(range(w * h))
+                    row[c] = d
+                    self.refuse(w, h, row)
+
+    def test_a_number_that_is_no_square(self):
+        for w, h in SHEETS:
+            for at in range(w * h):
+                for wrong in (w * h, w * h + 1, 9, 40, LARGEST):
+                    if wrong >= w * h:
+                        row = list(range(w * h))
+                        row[at] = wrong
+                        self.refuse(w, h, row)
+
+    def test_before_what_cannot_be(self):
+        # Without their last number these can't be, at square 0: it's still no row.
+        self.refuse(4, 1, [0, 2, 1, 3, 3])
+        self.refuse(4, 1, [0, 2, 1, 3, LARGEST])
+        self.refuse(2, 2, [0, 1, 2, 3, 0])
+        self.refuse(5, 1, [0, 2, 1, 3])
+
+    def test_every_short_list(self):
+        for w, h in ((1, 1), (2, 1), (1, 2), (3, 1), (1, 3), (2, 2), (4, 1)):
+            sheet = Sheet(w, h)
+            for length in range(6):
+                for numbers in map(list, product(range(5), repeat=length)):
+                    is_row = sorted(numbers) == list(range(w * h))
+                    self.assertEqual(judge(w, h, numbers), judged(sheet, numbers) if is_row else [-1])
+                    self.assertEqual(creases(w, h, numbers), creased(sheet, numbers) if is_row else [-1])
+
+
+if __name__ == "__main__":
+    unittest.main()
