@@ -9,6 +9,7 @@ from pathlib import Path
 PACKAGE = Path(__file__).resolve().parent.parent / "onesquare"
 FILES = sorted(PACKAGE.rglob("*.py"))
 
+# Narrower than LANGUAGE.md: the package has no need of classes, errors, lambdas and f-strings so far.
 NODES = (
     ast.Module, ast.FunctionDef, ast.arguments, ast.arg, ast.Return, ast.Assign, ast.AugAssign, ast.If, ast.For,
     ast.While, ast.Break, ast.Continue, ast.Pass, ast.Expr, ast.Name, ast.Constant, ast.List, ast.Tuple, ast.Dict,
