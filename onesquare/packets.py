@@ -1,10 +1,11 @@
-"""Packets of a sheet whose squares lie all on one place: which orders can be, and their creases."""
+"""Packets of a sheet whose squares lie all on one place: which orders can be, how many, and their creases."""
 
 MOST_ALONG = 6
 MOST_SQUARES = 9
 
 ANSWERED = 0
 NOT_OF_THE_SHEET = -1
+THERE_IS_NONE = -2
 CANNOT_BE = -5
 
 MOUNTAIN = 1
@@ -136,6 +137,44 @@ def creases_of(w, h, row):
     return [crease_between(w, layers, c, d) for c, d in folds(w, h)]
 
 
+def closes_rightly(row, turns, square):
+    """Whether the square laid on the row goes through nothing at that side."""
+    if turns[square] not in row:
+        return True
+    # The fold down to the one it turns to shuts in all between: none of these may turn to one outside.
+    between = row[row.index(turns[square]) + 1:]
+    for other in between:
+        if turns[other] is not None and turns[other] not in between:
+            return False
+    return True
+
+
+def can_lie_on(row, sides, square):
+    for turns in sides:
+        if not closes_rightly(row, turns, square):
+            return False
+    return True
+
+
+def with_one_more(rows, squares, sides):
+    """Each row with each square on it that can lie there, still in order."""
+    longer = []
+    for row in rows:
+        for square in range(squares):
+            if square not in row and can_lie_on(row, sides, square):
+                longer.append(row + [square])
+    return longer
+
+
+def rows_upon(w, h, bottom):
+    """The rows that can be with that square at the bottom, in order."""
+    sides = turns_at_sides(w, h)
+    rows = [[bottom]]
+    for layer in range(1, w * h):
+        rows = with_one_more(rows, w * h, sides)
+    return rows
+
+
 def judge(w, h, row):
     """[0] if the row can be, else its refusal."""
     refused = refusal(w, h, row)
@@ -151,3 +190,24 @@ def creases(w, h, row):
         return refused
     told = creases_of(w, h, row)
     return [ANSWERED, len(told)] + told
+
+
+def count(w, h):
+    """0 and how many rows can be; or -1."""
+    if not is_sheet(w, h):
+        return [NOT_OF_THE_SHEET]
+    # The top put to the bottom, a row can be still: each square is at the bottom of as many rows.
+    return [ANSWERED, w * h * len(rows_upon(w, h, 0))]
+
+
+def kth(w, h, k):
+    """0, how many squares the k-th row that can be has, and they; or -1, or -2 if there's none."""
+    if not is_sheet(w, h):
+        return [NOT_OF_THE_SHEET]
+    # As in count: the rows with square 0 at the bottom tell how many there are with each other one.
+    upon_each = len(rows_upon(w, h, 0))
+    bottom = k // upon_each
+    if bottom >= w * h:
+        return [THERE_IS_NONE]
+    row = rows_upon(w, h, bottom)[k % upon_each]
+    return [ANSWERED, len(row)] + row

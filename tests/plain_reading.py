@@ -4,6 +4,9 @@ It shares nothing with the package. Where squares lie, how they're turned and wh
 of a place doesn't hang on the row, so it's found once for each sheet.
 """
 
+from functools import lru_cache
+from itertools import permutations
+
 RIGHT, LEFT, UP, DOWN = "right", "left", "up", "down"
 SIDES = (RIGHT, LEFT, UP, DOWN)
 OTHER = {RIGHT: LEFT, LEFT: RIGHT, UP: DOWN, DOWN: UP}
@@ -146,3 +149,10 @@ def creased(sheet, row):
         return answer
     told = sheet.creases(layers_of(row))
     return [0, len(told)] + told
+
+
+@lru_cache(maxsize=None)
+def rows_that_can_be(w, h):
+    """Every row there is of the sheet, gone through one by one: those that can be, as tuples, in order."""
+    sheet = Sheet(w, h)
+    return tuple(sorted(row for row in permutations(range(w * h)) if sheet.fault(layers_of(row)) is None))

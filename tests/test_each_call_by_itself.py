@@ -6,11 +6,11 @@ import io
 import unittest
 
 import onesquare.packets
-from onesquare.packets import creases, judge
+from onesquare.packets import count, creases, judge, kth
 
 LARGEST = 4294967295
-CALLS = (judge, creases)
-HANDED_IN = (
+SHEETS = ((1, 1), (6, 1), (1, 6), (2, 2), (3, 3), (2, 4), (4, 2), (0, 0), (0, 1), (7, 1), (5, 2), (LARGEST, LARGEST))
+ROWS = (
     (1, 1, [0]),
     (6, 1, [0, 1, 2, 3, 4, 5]), (1, 6, [0, 1, 2, 4, 3, 5]),
     (2, 2, [0, 1, 3, 2]), (2, 2, [0, 1, 2, 3]),
@@ -18,6 +18,12 @@ HANDED_IN = (
     (2, 4, [0, 1, 3, 2, 4, 5, 7, 6]), (4, 2, [0, 1, 2, 3, 7, 6, 5, 4]),
     (2, 1, []), (2, 1, [0, 0]), (2, 1, [LARGEST, 0]), (2, 2, list(range(40))),
     (0, 0, []), (LARGEST, LARGEST, [0]), (5, 2, list(range(10))),
+)
+KS = (0, 1, 7, 143, 1367, 1368, LARGEST)
+CALLS = (
+    [(call, handed) for call in (judge, creases) for handed in ROWS]
+    + [(count, sheet) for sheet in SHEETS]
+    + [(kth, (w, h, k)) for w, h in SHEETS for k in KS]
 )
 
 
@@ -31,59 +37,69 @@ class Unchanging(list):
     __setitem__ = __delitem__ = __iadd__ = __imul__ = changed
 
 
-class EachCallByItself(unittest.TestCase):
-    def test_the_row_is_not_changed(self):
-        for call in CALLS:
-            for w, h, row in HANDED_IN:
-                handed = list(row)
-                call(w, h, handed)
-                self.assertEqual(handed, row)
+def copied(handed, kind=list):
+    return [kind(value) if isinstance(value, list) else value for value in handed]
 
-    def test_the_row_is_not_changed_for_a_while_either(self):
-        for call in CALLS:
-            for w, h, row in HANDED_IN:
-                self.assertEqual(call(w, h, Unchanging(row)), call(w, h, list(row)))
+
+class EachCallByItself(unittest.TestCase):
+    def test_what_is_handed_in_is_not_changed(self):
+        for call, handed in CALLS:
+            values = copied(handed)
+            call(*values)
+            self.assertEqual(values, list(handed), call)
+
+    def test_what_is_handed_in_is_not_changed_for_a_while_either(self):
+        for call, handed in CALLS:
+            self.assertEqual(call(*copied(handed, Unchanging)), call(*copied(handed)))
 
     def test_a_second_call_answers_as_the_first(self):
-        firsts = [call(w, h, list(row)) for call in CALLS for w, h, row in HANDED_IN]
-        seconds = [call(w, h, list(row)) for call in CALLS for w, h, row in HANDED_IN]
+        for call, handed in CALLS:
+            self.assertEqual(call(*copied(handed)), call(*copied(handed)), (call, handed))
+
+    def test_a_second_call_with_others_between_answers_as_the_first(self):
+        firsts = [call(*copied(handed)) for call, handed in CALLS]
+        seconds = [call(*copied(handed)) for call, handed in CALLS]
+        backwards = [call(*copied(handed)) for call, handed in reversed(CALLS)]
         self.assertEqual(firsts, seconds)
+        self.assertEqual(firsts, backwards[::-1])
 
     def test_an_answer_changed_by_its_reader_is_not_given_again(self):
-        for call in CALLS:
-            for w, h, row in HANDED_IN:
-                answer = call(w, h, list(row))
-                before = list(answer)
-                answer.append(99)
-                answer[0] = 99
-                self.assertEqual(call(w, h, list(row)), before)
+        for call, handed in CALLS:
+            answer = call(*copied(handed))
+            before = list(answer)
+            answer.append(99)
+            answer[0] = 99
+            self.assertEqual(call(*copied(handed)), before, (call, handed))
 
-    def test_the_row_itself_is_not_given_back(self):
-        for call in CALLS:
-            for w, h, row in HANDED_IN:
-                handed = list(row)
-                self.assertIsNot(call(w, h, handed), handed)
+    def test_the_list_itself_is_not_given_back(self):
+        for call, handed in CALLS:
+            values = copied(handed)
+            answer = call(*values)
+            self.assertFalse(any(answer is value for value in values), (call, handed))
 
     def test_answers_are_lists_of_whole_numbers(self):
-        for call in CALLS:
-            for w, h, row in HANDED_IN:
-                answer = call(w, h, list(row))
-                self.assertIs(type(answer), list)
-                self.assertEqual({type(number) for number in answer}, {int})
+        for call, handed in CALLS:
+            answer = call(*copied(handed))
+            self.assertIs(type(answer), list)
+            self.assertEqual({type(number) for number in answer}, {int})
 
     def test_nothing_is_printed(self):
         out, err = io.StringIO(), io.StringIO()
         with contextlib.redirect_stdout(out), contextlib.redirect_stderr(err):
-            for call in CALLS:
-                for w, h, row in HANDED_IN:
-                    call(w, h, list(row))
+            for call, handed in CALLS:
+                call(*copied(handed))
         self.assertEqual(out.getvalue() + err.getvalue(), "")
 
     def test_names_and_arguments(self):
-        for name in ("judge", "creases"):
-            self.assertEqual(list(inspect.signature(getattr(onesquare.packets, name)).parameters), ["w", "h", "row"])
+        for name, arguments in (
+            ("judge", ["w", "h", "row"]), ("creases", ["w", "h", "row"]),
+            ("count", ["w", "h"]), ("kth", ["w", "h", "k"]),
+        ):
+            self.assertEqual(list(inspect.signature(getattr(onesquare.packets, name)).parameters), arguments)
         self.assertEqual(judge(w=2, h=1, row=[0, 1]), [0])
         self.assertEqual(creases(w=2, h=1, row=[0, 1]), [0, 1, 2])
+        self.assertEqual(count(w=2, h=1), [0, 2])
+        self.assertEqual(kth(w=2, h=1, k=1), [0, 2, 1, 0])
 
 
 if __name__ == "__main__":

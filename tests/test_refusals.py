@@ -1,9 +1,9 @@
-"""The refusal -1 of judge and creases, and that it comes before all else."""
+"""The refusal -1, and that it comes before all else."""
 
 import unittest
 from itertools import product
 
-from onesquare.packets import creases, judge
+from onesquare.packets import count, creases, judge, kth
 from tests.plain_reading import SHEETS, Sheet, creased, judged
 
 LARGEST = 4294967295
@@ -42,6 +42,36 @@ class NoSheet(unittest.TestCase):
         for w, h in ((6, 1), (1, 6), (3, 3), (2, 4), (4, 2)):
             for call in CALLS:
                 self.assertNotEqual(call(w, h, list(range(w * h))), [-1])
+
+
+class NoSheetToCount(unittest.TestCase):
+    """count and kth, which are handed no row: small k would tell a row, large k would answer -2."""
+
+    def refuse(self, w, h):
+        self.assertEqual(count(w, h), [-1], (w, h))
+        for k in (0, 1, 2, 5, 1368, LARGEST):
+            self.assertEqual(kth(w, h, k), [-1], (w, h, k))
+
+    def test_along_out_of_range(self):
+        for wrong in (0, 7, 8, 9, 10, LARGEST):
+            for other in (0, 1, 2, 3, 4, 5, 6, 7, LARGEST):
+                self.refuse(wrong, other)
+                self.refuse(other, wrong)
+
+    def test_above_nine_squares(self):
+        for w, h in product(range(1, 7), repeat=2):
+            if w * h > 9:
+                self.refuse(w, h)
+
+    def test_those_named(self):
+        for w, h in ((2, 5), (3, 4), (4, 3), (5, 2), (6, 6)):
+            self.refuse(w, h)
+
+    def test_no_sheet_that_may_be_is_refused(self):
+        for w, h in SHEETS:
+            self.assertEqual(count(w, h)[0], 0, (w, h))
+            self.assertEqual(kth(w, h, 0)[0], 0, (w, h))
+            self.assertEqual(kth(w, h, LARGEST), [-2], (w, h))
 
 
 class NoRow(unittest.TestCase):
