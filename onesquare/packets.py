@@ -8,6 +8,7 @@ NOT_OF_THE_SHEET = -1
 THERE_IS_NONE = -2
 CANNOT_BE = -5
 
+EITHER = 0
 MOUNTAIN = 1
 VALLEY = 2
 
@@ -175,6 +176,29 @@ def rows_upon(w, h, bottom):
     return rows
 
 
+def rows_that_can_be(w, h):
+    rows = []
+    for bottom in range(w * h):
+        rows.extend(rows_upon(w, h, bottom))
+    return rows
+
+
+def are_told_creases(w, h, told):
+    return len(told) == len(folds(w, h)) and max(told, default=EITHER) <= VALLEY
+
+
+def fits(w, h, row, told):
+    for crease, asked in zip(creases_of(w, h, row), told):
+        if asked != EITHER and asked != crease:
+            return False
+    return True
+
+
+def rows_that_fit(w, h, told):
+    """The rows that can be and fit the told creases, in order."""
+    return [row for row in rows_that_can_be(w, h) if fits(w, h, row, told)]
+
+
 def judge(w, h, row):
     """[0] if the row can be, else its refusal."""
     refused = refusal(w, h, row)
@@ -211,3 +235,21 @@ def kth(w, h, k):
         return [THERE_IS_NONE]
     row = rows_upon(w, h, bottom)[k % upon_each]
     return [ANSWERED, len(row)] + row
+
+
+def number(w, h, row):
+    """0 and which one the row is of those that can be, from 0 on; or -1, or -2 if it can't be."""
+    if not is_sheet(w, h) or not is_row(w, h, row):
+        return [NOT_OF_THE_SHEET]
+    if lowest_at_fault(w, h, row) is not None:
+        return [THERE_IS_NONE]
+    # As in count: for each square of a lower number as many rows stand ahead of these.
+    rows = rows_upon(w, h, row[0])
+    return [ANSWERED, row[0] * len(rows) + rows.index(row)]
+
+
+def many(w, h, creases):
+    """0 and how many rows that can be fit the told creases; or -1."""
+    if not is_sheet(w, h) or not are_told_creases(w, h, creases):
+        return [NOT_OF_THE_SHEET]
+    return [ANSWERED, len(rows_that_fit(w, h, creases))]

@@ -156,3 +156,22 @@ def rows_that_can_be(w, h):
     """Every row there is of the sheet, gone through one by one: those that can be, as tuples, in order."""
     sheet = Sheet(w, h)
     return tuple(sorted(row for row in permutations(range(w * h)) if sheet.fault(layers_of(row)) is None))
+
+
+def how_many_creases(w, h):
+    return (w - 1) * h + w * (h - 1)
+
+
+@lru_cache(maxsize=None)
+def creases_that_can_be(w, h):
+    """The creases of each row that can be, in the rows' order."""
+    sheet = Sheet(w, h)
+    return tuple(tuple(sheet.creases(layers_of(row))) for row in rows_that_can_be(w, h))
+
+
+def as_told(creases, told):
+    return all(asked == 0 or asked == crease for crease, asked in zip(creases, told, strict=True))
+
+
+def how_many_fit(w, h, told):
+    return sum(as_told(creases, told) for creases in creases_that_can_be(w, h))

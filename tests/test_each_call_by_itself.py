@@ -6,7 +6,7 @@ import io
 import unittest
 
 import onesquare.packets
-from onesquare.packets import count, creases, judge, kth
+from onesquare.packets import count, creases, judge, kth, many, number
 
 LARGEST = 4294967295
 SHEETS = ((1, 1), (6, 1), (1, 6), (2, 2), (3, 3), (2, 4), (4, 2), (0, 0), (0, 1), (7, 1), (5, 2), (LARGEST, LARGEST))
@@ -19,11 +19,19 @@ ROWS = (
     (2, 1, []), (2, 1, [0, 0]), (2, 1, [LARGEST, 0]), (2, 2, list(range(40))),
     (0, 0, []), (LARGEST, LARGEST, [0]), (5, 2, list(range(10))),
 )
+TOLD = (
+    (1, 1, []), (2, 1, [0]), (1, 2, [2]), (6, 1, [0, 1, 2, 0, 0]), (1, 6, [1, 1, 1, 1, 1]),
+    (2, 2, [0, 0, 0, 0]), (2, 2, [1, 2, 2, 2]), (2, 2, [1, 1, 2, 2]),
+    (3, 3, [0, 1, 2, 0, 0, 0, 0, 0, 1, 0, 0, 0]), (2, 4, [2, 0, 0, 0, 0, 1, 0, 0, 0, 0]), (4, 2, [0] * 10),
+    (2, 1, []), (2, 1, [3]), (2, 1, [LARGEST]), (2, 1, [0, 0]), (2, 2, [0] * 40), (2, 2, [0, 1, 2, 3]),
+    (0, 0, []), (LARGEST, LARGEST, [0]), (5, 2, [0] * 13),
+)
 KS = (0, 1, 7, 143, 1367, 1368, LARGEST)
 CALLS = (
-    [(call, handed) for call in (judge, creases) for handed in ROWS]
+    [(call, handed) for call in (judge, creases, number) for handed in ROWS]
     + [(count, sheet) for sheet in SHEETS]
     + [(kth, (w, h, k)) for w, h in SHEETS for k in KS]
+    + [(many, handed) for handed in TOLD]
 )
 
 
@@ -94,12 +102,15 @@ class EachCallByItself(unittest.TestCase):
         for name, arguments in (
             ("judge", ["w", "h", "row"]), ("creases", ["w", "h", "row"]),
             ("count", ["w", "h"]), ("kth", ["w", "h", "k"]),
+            ("number", ["w", "h", "row"]), ("many", ["w", "h", "creases"]),
         ):
             self.assertEqual(list(inspect.signature(getattr(onesquare.packets, name)).parameters), arguments)
         self.assertEqual(judge(w=2, h=1, row=[0, 1]), [0])
         self.assertEqual(creases(w=2, h=1, row=[0, 1]), [0, 1, 2])
         self.assertEqual(count(w=2, h=1), [0, 2])
         self.assertEqual(kth(w=2, h=1, k=1), [0, 2, 1, 0])
+        self.assertEqual(number(w=2, h=1, row=[1, 0]), [0, 1])
+        self.assertEqual(many(w=2, h=1, creases=[2]), [0, 1])
 
 
 if __name__ == "__main__":

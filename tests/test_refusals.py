@@ -3,11 +3,11 @@
 import unittest
 from itertools import product
 
-from onesquare.packets import count, creases, judge, kth
-from tests.plain_reading import SHEETS, Sheet, creased, judged
+from onesquare.packets import count, creases, judge, kth, many, number
+from tests.plain_reading import SHEETS, Sheet, creased, how_many_creases, judged, rows_that_can_be
 
 LARGEST = 4294967295
-CALLS = (judge, creases)
+CALLS = (judge, creases, number)
 
 
 class NoSheet(unittest.TestCase):
@@ -120,6 +120,53 @@ class NoRow(unittest.TestCase):
                     is_row = sorted(numbers) == list(range(w * h))
                     self.assertEqual(judge(w, h, numbers), judged(sheet, numbers) if is_row else [-1])
                     self.assertEqual(creases(w, h, numbers), creased(sheet, numbers) if is_row else [-1])
+                    self.assertEqual(number(w, h, numbers), numbered(w, h, numbers) if is_row else [-1])
+
+
+class NoCreases(unittest.TestCase):
+    def refuse(self, w, h, told):
+        self.assertEqual(many(w, h, told), [-1], (w, h, told))
+
+    def test_along_out_of_range(self):
+        for wrong in (0, 7, 8, 9, LARGEST):
+            for other in (0, 1, 2, 3, 6, 7, LARGEST):
+                for length in range(41):
+                    self.refuse(wrong, other, [0] * length)
+                    self.refuse(other, wrong, [2] * length)
+
+    def test_above_nine_squares(self):
+        for w, h in product(range(1, 7), repeat=2):
+            if w * h > 9:
+                for length in range(41):
+                    self.refuse(w, h, [0] * length)
+                    self.refuse(w, h, [1] * length)
+
+    def test_too_few_and_too_many(self):
+        for w, h in SHEETS:
+            for length in range(41):
+                if length != how_many_creases(w, h):
+                    for crease in (0, 1, 2, 3, LARGEST):
+                        self.refuse(w, h, [crease] * length)
+
+    def test_above_two(self):
+        for w, h in SHEETS:
+            for at in range(how_many_creases(w, h)):
+                for other in (0, 1, 2):
+                    for wrong in (3, 4, 40, LARGEST):
+                        told = [other] * how_many_creases(w, h)
+                        told[at] = wrong
+                        self.refuse(w, h, told)
+
+    def test_no_creases_that_may_be_told_are_refused(self):
+        for w, h in SHEETS:
+            for crease in (0, 1, 2):
+                self.assertEqual(many(w, h, [crease] * how_many_creases(w, h))[0], 0, (w, h, crease))
+
+
+def numbered(w, h, row):
+    """What number is to answer for a row that is each square of the sheet once."""
+    rows = rows_that_can_be(w, h)
+    return [0, rows.index(tuple(row))] if tuple(row) in rows else [-2]
 
 
 if __name__ == "__main__":
