@@ -167,20 +167,23 @@ def with_one_more(rows, squares, sides):
     return longer
 
 
-def rows_upon(w, h, bottom):
-    """The rows that can be with that square at the bottom, in order."""
+def rows_upon_square_0(w, h):
+    """The rows that can be with square 0 at the bottom."""
     sides = turns_at_sides(w, h)
-    rows = [[bottom]]
+    rows = [[0]]
     for layer in range(1, w * h):
         rows = with_one_more(rows, w * h, sides)
     return rows
 
 
 def rows_that_can_be(w, h):
+    """All of them, each once and in order."""
+    # The top put to the bottom, a row can be still: so each comes from one with square 0 at the bottom.
     rows = []
-    for bottom in range(w * h):
-        rows.extend(rows_upon(w, h, bottom))
-    return rows
+    for row in rows_upon_square_0(w, h):
+        for top in range(len(row)):
+            rows.append(row[top:] + row[:top])
+    return sorted(rows)
 
 
 def are_told_creases(w, h, told):
@@ -199,6 +202,26 @@ def rows_that_fit(w, h, told):
     return [row for row in rows_that_can_be(w, h) if fits(w, h, row, told)]
 
 
+def different_creases(w, h):
+    """The rows of creases that some row that can be has, each once."""
+    met = {}
+    for row in rows_that_can_be(w, h):
+        met[tuple(creases_of(w, h, row))] = True
+    return list(met)
+
+
+def answered_row(row):
+    """A row as it is answered: how many numbers it has stands ahead of them."""
+    return [ANSWERED, len(row)] + list(row)
+
+
+def answered_one_of(rows, k):
+    """The k-th of the rows as it is answered, from 0 on; -2 if there's none."""
+    if k >= len(rows):
+        return [THERE_IS_NONE]
+    return answered_row(rows[k])
+
+
 def judge(w, h, row):
     """[0] if the row can be, else its refusal."""
     refused = refusal(w, h, row)
@@ -212,29 +235,21 @@ def creases(w, h, row):
     refused = refusal(w, h, row)
     if refused:
         return refused
-    told = creases_of(w, h, row)
-    return [ANSWERED, len(told)] + told
+    return answered_row(creases_of(w, h, row))
 
 
 def count(w, h):
     """0 and how many rows can be; or -1."""
     if not is_sheet(w, h):
         return [NOT_OF_THE_SHEET]
-    # The top put to the bottom, a row can be still: each square is at the bottom of as many rows.
-    return [ANSWERED, w * h * len(rows_upon(w, h, 0))]
+    return [ANSWERED, len(rows_that_can_be(w, h))]
 
 
 def kth(w, h, k):
     """0, how many squares the k-th row that can be has, and they; or -1, or -2 if there's none."""
     if not is_sheet(w, h):
         return [NOT_OF_THE_SHEET]
-    # As in count: the rows with square 0 at the bottom tell how many there are with each other one.
-    upon_each = len(rows_upon(w, h, 0))
-    bottom = k // upon_each
-    if bottom >= w * h:
-        return [THERE_IS_NONE]
-    row = rows_upon(w, h, bottom)[k % upon_each]
-    return [ANSWERED, len(row)] + row
+    return answered_one_of(rows_that_can_be(w, h), k)
 
 
 def number(w, h, row):
@@ -243,9 +258,7 @@ def number(w, h, row):
         return [NOT_OF_THE_SHEET]
     if lowest_at_fault(w, h, row) is not None:
         return [THERE_IS_NONE]
-    # As in count: for each square of a lower number as many rows stand ahead of these.
-    rows = rows_upon(w, h, row[0])
-    return [ANSWERED, row[0] * len(rows) + rows.index(row)]
+    return [ANSWERED, rows_that_can_be(w, h).index(row)]
 
 
 def many(w, h, creases):
@@ -253,3 +266,17 @@ def many(w, h, creases):
     if not is_sheet(w, h) or not are_told_creases(w, h, creases):
         return [NOT_OF_THE_SHEET]
     return [ANSWERED, len(rows_that_fit(w, h, creases))]
+
+
+def first(w, h, k, creases):
+    """0, how many squares the k-th row that can be and fits the told creases has, and they; or -1, or -2."""
+    if not is_sheet(w, h) or not are_told_creases(w, h, creases):
+        return [NOT_OF_THE_SHEET]
+    return answered_one_of(rows_that_fit(w, h, creases), k)
+
+
+def patterns(w, h):
+    """0 and how many different rows of creases the rows that can be have; or -1."""
+    if not is_sheet(w, h):
+        return [NOT_OF_THE_SHEET]
+    return [ANSWERED, len(different_creases(w, h))]

@@ -5,7 +5,7 @@ of a place doesn't hang on the row, so it's found once for each sheet.
 """
 
 from functools import lru_cache
-from itertools import permutations
+from itertools import combinations_with_replacement, islice, permutations, product
 
 RIGHT, LEFT, UP, DOWN = "right", "left", "up", "down"
 SIDES = (RIGHT, LEFT, UP, DOWN)
@@ -173,5 +173,32 @@ def as_told(creases, told):
     return all(asked == 0 or asked == crease for crease, asked in zip(creases, told, strict=True))
 
 
+def rows_that_fit(w, h, told):
+    """The rows that can be and fit the told creases, as tuples, in order."""
+    both = zip(rows_that_can_be(w, h), creases_that_can_be(w, h), strict=True)
+    return [row for row, creases in both if as_told(creases, told)]
+
+
 def how_many_fit(w, h, told):
-    return sum(as_told(creases, told) for creases in creases_that_can_be(w, h))
+    return len(rows_that_fit(w, h, told))
+
+
+def every_way_to_tell(w, h):
+    return map(list, product((0, 1, 2), repeat=how_many_creases(w, h)))
+
+
+def mountains_for_valleys(told):
+    return [(0, 2, 1)[crease] for crease in told]
+
+
+def some_told(w, h):
+    """One or two creases told alone, and what some rows have, whole and with every second, third or fifth left open."""
+    length = how_many_creases(w, h)
+    for at, other in combinations_with_replacement(range(length), 2):
+        told = [0] * length
+        told[other] = 1 + (at + other) % 2
+        told[at] = 1 + at % 2
+        yield told
+    for creases in islice(creases_that_can_be(w, h), 0, None, 61):
+        for gap in (2, 3, 5, length + 1):
+            yield [0 if at % gap == gap - 1 else crease for at, crease in enumerate(creases)]

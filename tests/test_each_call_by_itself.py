@@ -6,7 +6,7 @@ import io
 import unittest
 
 import onesquare.packets
-from onesquare.packets import count, creases, judge, kth, many, number
+from onesquare.packets import count, creases, first, judge, kth, many, number, patterns
 
 LARGEST = 4294967295
 SHEETS = ((1, 1), (6, 1), (1, 6), (2, 2), (3, 3), (2, 4), (4, 2), (0, 0), (0, 1), (7, 1), (5, 2), (LARGEST, LARGEST))
@@ -29,9 +29,10 @@ TOLD = (
 KS = (0, 1, 7, 143, 1367, 1368, LARGEST)
 CALLS = (
     [(call, handed) for call in (judge, creases, number) for handed in ROWS]
-    + [(count, sheet) for sheet in SHEETS]
+    + [(call, sheet) for call in (count, patterns) for sheet in SHEETS]
     + [(kth, (w, h, k)) for w, h in SHEETS for k in KS]
     + [(many, handed) for handed in TOLD]
+    + [(first, (w, h, k, told)) for w, h, told in TOLD for k in KS]
 )
 
 
@@ -103,6 +104,7 @@ class EachCallByItself(unittest.TestCase):
             ("judge", ["w", "h", "row"]), ("creases", ["w", "h", "row"]),
             ("count", ["w", "h"]), ("kth", ["w", "h", "k"]),
             ("number", ["w", "h", "row"]), ("many", ["w", "h", "creases"]),
+            ("first", ["w", "h", "k", "creases"]), ("patterns", ["w", "h"]),
         ):
             self.assertEqual(list(inspect.signature(getattr(onesquare.packets, name)).parameters), arguments)
         self.assertEqual(judge(w=2, h=1, row=[0, 1]), [0])
@@ -111,6 +113,8 @@ class EachCallByItself(unittest.TestCase):
         self.assertEqual(kth(w=2, h=1, k=1), [0, 2, 1, 0])
         self.assertEqual(number(w=2, h=1, row=[1, 0]), [0, 1])
         self.assertEqual(many(w=2, h=1, creases=[2]), [0, 1])
+        self.assertEqual(first(w=2, h=1, k=0, creases=[1]), [0, 2, 1, 0])
+        self.assertEqual(patterns(w=2, h=1), [0, 2])
 
 
 if __name__ == "__main__":

@@ -1,34 +1,15 @@
 """number and many: which one a row is of those that can be, and how many fit told creases."""
 
 import unittest
-from itertools import combinations_with_replacement, islice, permutations, product
+from itertools import islice, permutations
 
 from onesquare.packets import count, kth, many, number
-from tests.plain_reading import SHEETS, creases_that_can_be, how_many_creases, how_many_fit, rows_that_can_be
+from tests.plain_reading import (
+    SHEETS, every_way_to_tell, how_many_creases, how_many_fit, mountains_for_valleys, rows_that_can_be, some_told,
+)
 
 SMALL = [(w, h) for w, h in SHEETS if w * h <= 6]
 LARGE = [(w, h) for w, h in SHEETS if w * h > 6]
-
-
-def every_way_to_tell(w, h):
-    return map(list, product((0, 1, 2), repeat=how_many_creases(w, h)))
-
-
-def mountains_for_valleys(told):
-    return [(0, 2, 1)[crease] for crease in told]
-
-
-def some_told(w, h):
-    """One or two creases told alone, and what some rows have, whole and with every second, third or fifth left open."""
-    length = how_many_creases(w, h)
-    for at, other in combinations_with_replacement(range(length), 2):
-        told = [0] * length
-        told[other] = 1 + (at + other) % 2
-        told[at] = 1 + at % 2
-        yield told
-    for creases in islice(creases_that_can_be(w, h), 0, None, 61):
-        for gap in (2, 3, 5, length + 1):
-            yield [0 if at % gap == gap - 1 else crease for at, crease in enumerate(creases)]
 
 
 class Number(unittest.TestCase):

@@ -3,7 +3,7 @@
 import unittest
 from itertools import product
 
-from onesquare.packets import count, creases, judge, kth, many, number
+from onesquare.packets import count, creases, first, judge, kth, many, number, patterns
 from tests.plain_reading import SHEETS, Sheet, creased, how_many_creases, judged, rows_that_can_be
 
 LARGEST = 4294967295
@@ -45,10 +45,11 @@ class NoSheet(unittest.TestCase):
 
 
 class NoSheetToCount(unittest.TestCase):
-    """count and kth, which are handed no row: small k would tell a row, large k would answer -2."""
+    """The calls that are handed no row and no creases: small k would tell a row, large k would answer -2."""
 
     def refuse(self, w, h):
         self.assertEqual(count(w, h), [-1], (w, h))
+        self.assertEqual(patterns(w, h), [-1], (w, h))
         for k in (0, 1, 2, 5, 1368, LARGEST):
             self.assertEqual(kth(w, h, k), [-1], (w, h, k))
 
@@ -70,6 +71,7 @@ class NoSheetToCount(unittest.TestCase):
     def test_no_sheet_that_may_be_is_refused(self):
         for w, h in SHEETS:
             self.assertEqual(count(w, h)[0], 0, (w, h))
+            self.assertEqual(patterns(w, h)[0], 0, (w, h))
             self.assertEqual(kth(w, h, 0)[0], 0, (w, h))
             self.assertEqual(kth(w, h, LARGEST), [-2], (w, h))
 
@@ -124,8 +126,12 @@ class NoRow(unittest.TestCase):
 
 
 class NoCreases(unittest.TestCase):
+    """The calls that are handed told creases: of first, small k would tell a row, large k would answer -2."""
+
     def refuse(self, w, h, told):
         self.assertEqual(many(w, h, told), [-1], (w, h, told))
+        for k in (0, 1, 1368, LARGEST):
+            self.assertEqual(first(w, h, k, told), [-1], (w, h, k, told))
 
     def test_along_out_of_range(self):
         for wrong in (0, 7, 8, 9, LARGEST):
@@ -157,10 +163,19 @@ class NoCreases(unittest.TestCase):
                         told[at] = wrong
                         self.refuse(w, h, told)
 
+    def test_before_none_that_fits(self):
+        # No row has four mountains or four valleys around a corner: with a wrong number behind or among them it's -1.
+        for crease in (1, 2):
+            for told in ([crease] * 3, [crease] * 5, [crease] * 4 + [3], [crease] * 3 + [3], [LARGEST] + [crease] * 3):
+                self.refuse(2, 2, told)
+
     def test_no_creases_that_may_be_told_are_refused(self):
         for w, h in SHEETS:
             for crease in (0, 1, 2):
-                self.assertEqual(many(w, h, [crease] * how_many_creases(w, h))[0], 0, (w, h, crease))
+                told = [crease] * how_many_creases(w, h)
+                self.assertEqual(many(w, h, told)[0], 0, (w, h, crease))
+                self.assertNotEqual(first(w, h, 0, told), [-1], (w, h, crease))
+                self.assertEqual(first(w, h, LARGEST, told), [-2], (w, h, crease))
 
 
 def numbered(w, h, row):
