@@ -1,4 +1,4 @@
-"""Packets of a sheet whose squares lie all on one place: which orders can be, how many, and their creases."""
+"""Packets of a sheet whose squares lie all on one place: which orders can be, and their creases."""
 
 MOST_ALONG = 6
 MOST_SQUARES = 9
@@ -203,11 +203,11 @@ def rows_that_fit(w, h, told):
 
 
 def different_creases(w, h):
-    """The rows of creases that some row that can be has, each once."""
+    """The rows of creases that some row that can be has, each once and in order."""
     met = {}
     for row in rows_that_can_be(w, h):
         met[tuple(creases_of(w, h, row))] = True
-    return list(met)
+    return sorted(met)
 
 
 def answered_row(row):
@@ -280,3 +280,18 @@ def patterns(w, h):
     if not is_sheet(w, h):
         return [NOT_OF_THE_SHEET]
     return [ANSWERED, len(different_creases(w, h))]
+
+
+def pattern(w, h, k):
+    """0, how many creases there are, and they as in the k-th of the different rows of creases; or -1, or -2."""
+    if not is_sheet(w, h):
+        return [NOT_OF_THE_SHEET]
+    return answered_one_of(different_creases(w, h), k)
+
+
+def beneath(w, h, c, d, creases):
+    """0 and in how many rows that can be and fit the told creases c lies below d; or -1."""
+    if not is_sheet(w, h) or max(c, d) >= w * h or not are_told_creases(w, h, creases):
+        return [NOT_OF_THE_SHEET]
+    below = [row for row in rows_that_fit(w, h, creases) if row.index(c) < row.index(d)]
+    return [ANSWERED, len(below)]

@@ -169,6 +169,18 @@ def creases_that_can_be(w, h):
     return tuple(tuple(sheet.creases(layers_of(row))) for row in rows_that_can_be(w, h))
 
 
+def corners(w, h, creases):
+    """The four creases around each corner within the sheet."""
+    across, upright = creases[: (w - 1) * h], creases[(w - 1) * h:]
+    return [
+        (
+            across[(w - 1) * y + x], across[(w - 1) * (y + 1) + x],
+            upright[w * y + x], upright[w * y + x + 1],
+        )
+        for x in range(w - 1) for y in range(h - 1)
+    ]
+
+
 def as_told(creases, told):
     return all(asked == 0 or asked == crease for crease, asked in zip(creases, told, strict=True))
 

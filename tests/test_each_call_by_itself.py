@@ -6,7 +6,7 @@ import io
 import unittest
 
 import onesquare.packets
-from onesquare.packets import count, creases, first, judge, kth, many, number, patterns
+from onesquare.packets import beneath, count, creases, first, judge, kth, many, number, pattern, patterns
 
 LARGEST = 4294967295
 SHEETS = ((1, 1), (6, 1), (1, 6), (2, 2), (3, 3), (2, 4), (4, 2), (0, 0), (0, 1), (7, 1), (5, 2), (LARGEST, LARGEST))
@@ -27,12 +27,14 @@ TOLD = (
     (0, 0, []), (LARGEST, LARGEST, [0]), (5, 2, [0] * 13),
 )
 KS = (0, 1, 7, 143, 1367, 1368, LARGEST)
+PAIRS = ((0, 0), (0, 1), (1, 0), (3, 2), (4, 8), (0, LARGEST), (LARGEST, 0))
 CALLS = (
     [(call, handed) for call in (judge, creases, number) for handed in ROWS]
     + [(call, sheet) for call in (count, patterns) for sheet in SHEETS]
-    + [(kth, (w, h, k)) for w, h in SHEETS for k in KS]
+    + [(call, (w, h, k)) for call in (kth, pattern) for w, h in SHEETS for k in KS]
     + [(many, handed) for handed in TOLD]
     + [(first, (w, h, k, told)) for w, h, told in TOLD for k in KS]
+    + [(beneath, (w, h, c, d, told)) for w, h, told in TOLD for c, d in PAIRS]
 )
 
 
@@ -105,6 +107,7 @@ class EachCallByItself(unittest.TestCase):
             ("count", ["w", "h"]), ("kth", ["w", "h", "k"]),
             ("number", ["w", "h", "row"]), ("many", ["w", "h", "creases"]),
             ("first", ["w", "h", "k", "creases"]), ("patterns", ["w", "h"]),
+            ("pattern", ["w", "h", "k"]), ("beneath", ["w", "h", "c", "d", "creases"]),
         ):
             self.assertEqual(list(inspect.signature(getattr(onesquare.packets, name)).parameters), arguments)
         self.assertEqual(judge(w=2, h=1, row=[0, 1]), [0])
@@ -115,6 +118,8 @@ class EachCallByItself(unittest.TestCase):
         self.assertEqual(many(w=2, h=1, creases=[2]), [0, 1])
         self.assertEqual(first(w=2, h=1, k=0, creases=[1]), [0, 2, 1, 0])
         self.assertEqual(patterns(w=2, h=1), [0, 2])
+        self.assertEqual(pattern(w=2, h=1, k=1), [0, 1, 2])
+        self.assertEqual(beneath(w=2, h=1, c=0, d=1, creases=[2]), [0, 1])
 
 
 if __name__ == "__main__":

@@ -63,6 +63,10 @@ class Language(unittest.TestCase):
                 if isinstance(node, ast.ImportFrom):
                     self.assertEqual((node.module.split(".")[0], node.level), ("onesquare", 0), path)
 
+    def test_packets_imports_nothing(self):
+        found = [node for node in nodes(PACKAGE / "packets.py") if isinstance(node, (ast.Import, ast.ImportFrom))]
+        self.assertEqual(found, [])
+
     def test_functions(self):
         for path in FILES:
             for node in nodes(path):

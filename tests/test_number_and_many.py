@@ -3,10 +3,11 @@
 import unittest
 from itertools import islice, permutations
 
-from onesquare.packets import count, kth, many, number
+from onesquare.packets import count, many, number
 from tests.plain_reading import (
     SHEETS, every_way_to_tell, how_many_creases, how_many_fit, mountains_for_valleys, rows_that_can_be, some_told,
 )
+from tests.test_count_and_kth import rows_told
 
 SMALL = [(w, h) for w, h in SHEETS if w * h <= 6]
 LARGE = [(w, h) for w, h in SHEETS if w * h > 6]
@@ -27,8 +28,8 @@ class Number(unittest.TestCase):
 
     def test_the_row_that_kth_tells(self):
         for w, h in SHEETS:
-            for k in range(len(rows_that_can_be(w, h))):
-                self.assertEqual(number(w, h, kth(w, h, k)[2:]), [0, k], (w, h, k))
+            for k, row in enumerate(rows_told(w, h)):
+                self.assertEqual(number(w, h, list(row)), [0, k], (w, h, k))
 
     def hold(self, w, h, rows):
         numbers = {row: k for k, row in enumerate(rows_that_can_be(w, h))}

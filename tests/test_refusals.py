@@ -3,7 +3,7 @@
 import unittest
 from itertools import product
 
-from onesquare.packets import count, creases, first, judge, kth, many, number, patterns
+from onesquare.packets import beneath, count, creases, first, judge, kth, many, number, pattern, patterns
 from tests.plain_reading import SHEETS, Sheet, creased, how_many_creases, judged, rows_that_can_be
 
 LARGEST = 4294967295
@@ -52,6 +52,7 @@ class NoSheetToCount(unittest.TestCase):
         self.assertEqual(patterns(w, h), [-1], (w, h))
         for k in (0, 1, 2, 5, 1368, LARGEST):
             self.assertEqual(kth(w, h, k), [-1], (w, h, k))
+            self.assertEqual(pattern(w, h, k), [-1], (w, h, k))
 
     def test_along_out_of_range(self):
         for wrong in (0, 7, 8, 9, 10, LARGEST):
@@ -74,6 +75,8 @@ class NoSheetToCount(unittest.TestCase):
             self.assertEqual(patterns(w, h)[0], 0, (w, h))
             self.assertEqual(kth(w, h, 0)[0], 0, (w, h))
             self.assertEqual(kth(w, h, LARGEST), [-2], (w, h))
+            self.assertEqual(pattern(w, h, 0)[0], 0, (w, h))
+            self.assertEqual(pattern(w, h, LARGEST), [-2], (w, h))
 
 
 class NoRow(unittest.TestCase):
@@ -132,6 +135,8 @@ class NoCreases(unittest.TestCase):
         self.assertEqual(many(w, h, told), [-1], (w, h, told))
         for k in (0, 1, 1368, LARGEST):
             self.assertEqual(first(w, h, k, told), [-1], (w, h, k, told))
+        for c, d in ((0, 0), (0, 1), (1, 0), (8, 3), (LARGEST, 0)):
+            self.assertEqual(beneath(w, h, c, d, told), [-1], (w, h, c, d, told))
 
     def test_along_out_of_range(self):
         for wrong in (0, 7, 8, 9, LARGEST):
@@ -176,6 +181,32 @@ class NoCreases(unittest.TestCase):
                 self.assertEqual(many(w, h, told)[0], 0, (w, h, crease))
                 self.assertNotEqual(first(w, h, 0, told), [-1], (w, h, crease))
                 self.assertEqual(first(w, h, LARGEST, told), [-2], (w, h, crease))
+                self.assertEqual(beneath(w, h, 0, w * h - 1, told)[0], 0, (w, h, crease))
+
+
+class NoSquare(unittest.TestCase):
+    def test_each_alone_and_both(self):
+        for w, h in SHEETS:
+            squares = w * h
+            for crease in (0, 1, 2):
+                told = [crease] * how_many_creases(w, h)
+                for wrong in (squares, squares + 1, squares + w, 10, 36, 40, 2 ** 31, LARGEST):
+                    for right in range(squares):
+                        self.assertEqual(beneath(w, h, wrong, right, told), [-1], (w, h, wrong, right))
+                        self.assertEqual(beneath(w, h, right, wrong, told), [-1], (w, h, right, wrong))
+                    self.assertEqual(beneath(w, h, wrong, wrong, told), [-1], (w, h, wrong))
+                    self.assertEqual(beneath(w, h, wrong, squares, told), [-1], (w, h, wrong))
+
+    def test_no_square_and_no_sheet(self):
+        for w, h in ((0, 0), (0, 1), (7, 1), (1, 7), (2, 5), (6, 6), (LARGEST, LARGEST)):
+            for c, d in product((0, 1, 9, 40, LARGEST), repeat=2):
+                for length in (0, 6, 13, 40):
+                    self.assertEqual(beneath(w, h, c, d, [0] * length), [-1], (w, h, c, d, length))
+
+    def test_every_square_is_taken(self):
+        for w, h in SHEETS:
+            for c, d in product(range(w * h), repeat=2):
+                self.assertEqual(beneath(w, h, c, d, [0] * how_many_creases(w, h))[0], 0, (w, h, c, d))
 
 
 def numbered(w, h, row):

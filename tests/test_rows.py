@@ -1,10 +1,11 @@
-"""judge and creases at rows that are each square once."""
+"""judge and creases at rows that are each square once, and that just those that can be are told."""
 
 import unittest
 from itertools import permutations
 
 from onesquare.packets import creases, judge
 from tests.plain_reading import SHEETS, Sheet, creased, judged
+from tests.test_count_and_kth import rows_told
 
 # How many foldings a strip of n stamps and a map of w by h have, as is known from elsewhere.
 KNOWN_COUNTS = {
@@ -15,10 +16,6 @@ KNOWN_COUNTS = {
 
 def known_count(w, h):
     return KNOWN_COUNTS.get((w, h)) or KNOWN_COUNTS[(h, w)]
-
-
-def rows_that_can_be(w, h):
-    return [row for row in map(list, permutations(range(w * h))) if judge(w, h, row) == [0]]
 
 
 class JudgeByHand(unittest.TestCase):
@@ -91,17 +88,19 @@ class CreasesByHand(unittest.TestCase):
 class EveryRow(unittest.TestCase):
     def hold(self, w, h):
         sheet = Sheet(w, h)
-        can_be = 0
+        can_be = []
         for row in map(list, permutations(range(w * h))):
             expected = judged(sheet, row)
             if judge(w, h, row) != expected:
                 self.fail(f"judge({w}, {h}, {row}) is {judge(w, h, row)}, not {expected}")
             if expected == [0]:
-                can_be += 1
+                can_be.append(tuple(row))
                 expected = creased(sheet, row)
             if creases(w, h, row) != expected:
                 self.fail(f"creases({w}, {h}, {row}) is {creases(w, h, row)}, not {expected}")
-        self.assertEqual(can_be, known_count(w, h), (w, h))
+        self.assertEqual(len(can_be), known_count(w, h), (w, h))
+        # Rows told can be, and all that can be are told.
+        self.assertEqual(can_be, rows_told(w, h), (w, h))
 
     def test_up_to_six_squares(self):
         for w, h in SHEETS:
@@ -119,39 +118,6 @@ class EveryRow(unittest.TestCase):
 
     def test_every_sheet_is_held(self):
         self.assertEqual([sheet for sheet in SHEETS if sheet[0] * sheet[1] > 6], [(2, 4), (3, 3), (4, 2)])
-
-
-class ThePromises(unittest.TestCase):
-    SMALL = [sheet for sheet in SHEETS if sheet[0] * sheet[1] <= 8]
-
-    def test_top_to_the_bottom(self):
-        for w, h in self.SMALL:
-            for row in rows_that_can_be(w, h):
-                self.assertEqual(judge(w, h, row[-1:] + row[:-1]), [0], (w, h, row))
-
-    def test_the_other_way_round(self):
-        for w, h in self.SMALL:
-            for row in rows_that_can_be(w, h):
-                told = creases(w, h, row)
-                swapped = told[:2] + [3 - crease for crease in told[2:]]
-                self.assertEqual(creases(w, h, row[::-1]), swapped, (w, h, row))
-
-    def test_three_alike_around_a_corner(self):
-        for w, h in self.SMALL:
-            for row in rows_that_can_be(w, h):
-                told = creases(w, h, row)[2:]
-                for x in range(w - 1):
-                    for y in range(h - 1):
-                        self.assertIn(corner(w, h, told, x, y).count(1), (1, 3), (w, h, row))
-
-
-def corner(w, h, told, x, y):
-    """The four creases around the corner at the upper right of the square of column x, row y."""
-    across, upright = told[: (w - 1) * h], told[(w - 1) * h:]
-    return [
-        across[(w - 1) * y + x], across[(w - 1) * (y + 1) + x],
-        upright[w * y + x], upright[w * y + x + 1],
-    ]
 
 
 if __name__ == "__main__":
